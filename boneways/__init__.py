@@ -1,0 +1,1 @@
+"""Boneways: pictures thinned to lines, by rules that are judged first."""

@@ -1,0 +1,104 @@
+"""Points 1.7, 2.7, 3.6, 4.7 and 5.7: the greatest that callers pass is answered, and soon."""
+
+import random
+import time
+import unittest
+
+from boneways.lots import (
+    all_simple_free, first_clash, free_fault, free_within, hands_left, is_free, judge_bad, judge_most, judge_order,
+    least_bads, order_of, safe_hands)
+from boneways.pictures import box_of, least_pose, picture_of, pose_between, posed, shifted, unblown, within_box
+from boneways.pieces import euler, holes, judge_holes, judge_pieces, pieces, place_of
+from boneways.rules import alike_rules, codes_of, judge_rule, made_rule, narrowed, refined, turned_rule
+from boneways.simple import addable, all_changes, changed, judge_changes, judge_struck, keeps, simple_cells
+from boneways.texts import cells_text, picture_text, read_cells, read_picture
+from boneways.tree import around, form_of, judge_match, matched, nodes
+
+SECONDS = 20
+
+
+def greatest_pictures():
+    """Pictures of four hundred cells within sixty by sixty, far from 0, 0."""
+    chance = random.Random(1)
+    cells = [(x, y) for x in range(60) for y in range(60)]
+    thin = chance.sample(cells, 400)
+    dense = chance.sample([cell for cell in cells if cell[0] < 22 and cell[1] < 22], 400)
+    block = [cell for cell in cells if cell[0] < 20 and cell[1] < 20]
+    comb = [(x, y) for x, y in cells if y == 0 or x % 10 == 5][:400]
+    return [shifted(picture_of(lot), -999999, 999940) for lot in (thin, dense, block, comb)]
+
+
+class Sizes(unittest.TestCase):
+    def setUp(self):
+        self.begun = time.monotonic()
+
+    def tearDown(self):
+        self.assertLess(time.monotonic() - self.begun, SECONDS)
+
+    def test_pictures_and_texts(self):
+        chance = random.Random(2)
+        wide = picture_of([(chance.randrange(1 - 10 ** 9, 10 ** 9), chance.randrange(10 ** 9)) for _ in range(400)])
+        self.assertEqual(pose_between(wide, posed(wide, 7)), (7, 0, 0))
+        self.assertEqual(least_pose(wide), least_pose(posed(wide, 3)))
+        self.assertIsNone(unblown(wide, 2))
+        self.assertEqual(euler(wide), len(pieces(wide)))
+        self.assertEqual(read_cells(cells_text(wide)), wide)
+        for picture in greatest_pictures():
+            self.assertEqual(read_picture(picture_text(picture)), picture)
+            x0, y0, x1, y1 = box_of(picture)
+            self.assertEqual(len(within_box(picture)) + 400, (x1 - x0 + 1) * (y1 - y0 + 1))
+
+    def test_pieces_and_trees(self):
+        for picture in greatest_pictures():
+            other = posed(picture, 6)
+            self.assertIsNone(judge_pieces(picture, pieces(picture)))
+            self.assertIsNone(judge_holes(picture, holes(picture)))
+            self.assertIsNone(judge_match(picture, other, matched(picture, other)))
+            self.assertEqual(len(nodes(picture)), len(pieces(picture)) + len(holes(picture)))
+            for cell in picture[::40]:
+                self.assertEqual(around(picture, cell)[0], place_of(picture, cell))
+
+    def test_striking_and_changes(self):
+        chance = random.Random(3)
+        for start in greatest_pictures():
+            lot = tuple(sorted(chance.sample(start, 60)))
+            self.assertEqual(keeps(start, lot), judge_struck(start, lot) is None)
+            self.assertEqual(keeps(start, lot), order_of(start, lot) is not None)
+            picture, row = start, []
+            for _ in range(20):
+                row.append(chance.choice(all_changes(picture)))
+                picture = changed(picture, row[-1])
+            row += [(cell, 1 - kind) for cell, kind in reversed(row)]
+            self.assertIsNone(judge_changes(start, row * 5))
+            self.assertEqual(form_of(picture), form_of(start))
+            self.assertEqual(len(all_changes(picture)), len(simple_cells(picture)) + len(addable(picture)))
+
+    def test_lots_and_hands(self):
+        chance = random.Random(4)
+        for picture in greatest_pictures():
+            lot = tuple(sorted(chance.sample(picture, 40)))
+            self.assertEqual(is_free(picture, lot), least_bads(picture, lot) == ())
+            self.assertIsNone(judge_most(picture, lot, free_within(picture, lot, lot[::-1])))
+            free = all_simple_free(picture)
+            self.assertIsNone(free_fault(picture, free))
+            self.assertIsNone(judge_order(picture, free[:40], free[:40][::-1]))
+            for bad in least_bads(picture, lot[:10]):
+                self.assertIsNone(judge_bad(picture, lot, bad))
+            hands = [free[k::8] for k in range(8)]
+            self.assertIs(safe_hands(picture, hands), True)
+            self.assertIsNone(first_clash(picture, hands))
+            self.assertEqual(len(hands_left(picture, hands)), len(picture) - len(free))
+
+    def test_rules(self):
+        many = ("both", (("runs", 0, 8),) * 99 + (("either", (("simple",), ("some turn", ("black", 1)))),) * 25)
+        self.assertEqual(judge_rule((3, 3, ((codes_of(many),) * 9,) * 8)), None)
+        rule = made_rule(3, 3, ((many,) * 9,) * 2)
+        self.assertEqual(narrowed(rule, many), rule)
+        full = (3, 3, ((tuple(range(256)),) * 9,) * 8)
+        for k in range(4):
+            self.assertEqual(turned_rule(full, k), full)
+        self.assertIs(alike_rules(full, refined((1, 1, ((tuple(range(256)),),) * 8), 3, 3)), True)
+
+
+if __name__ == "__main__":
+    unittest.main()
