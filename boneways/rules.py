@@ -11,8 +11,8 @@ MOST_DEPTH = 30
 # All classes of all rules come again after so many columns, and rows.
 ALL_CLASSES = 6
 
-# The words of conditions without parts, each with the greatest of the integers behind it.
-LEAF_LIMITS = {
+# The words of conditions, each with the greatest values of the integers behind it.
+NUMBER_LIMITS = {
     "all": (),
     "none": (),
     "code": (255,),
@@ -21,6 +21,11 @@ LEAF_LIMITS = {
     "sides": (8, 8),
     "runs": (8, 8),
     "simple": (),
+    "turned": (7,),
+    "some turn": (),
+    "either": (),
+    "both": (),
+    "not": (),
 }
 
 
@@ -70,9 +75,14 @@ def is_rule(value):
     return judge_rule(value) is None
 
 
+def class_number(a, b, cell):
+    """The number of the table of a cell, in rules with a times b classes."""
+    return cell[0] % a * b + cell[1] % b
+
+
 def table_number(rule, cell):
     """The number of the table of a cell."""
-    return cell[0] % rule[0] * rule[1] + cell[1] % rule[1]
+    return class_number(rule[0], rule[1], cell)
 
 
 def strikes_code(rule, p, cell, code):
@@ -96,7 +106,7 @@ def parts_told(value):
         return told if len(told) == 1 else None
     if word == "turned":
         return told[1:] if len(told) == 2 and is_whole_to(told[0], 7) else None
-    limits = LEAF_LIMITS.get(word)
+    limits = NUMBER_LIMITS.get(word)
     if limits is None or len(limits) != len(told):
         return None
     return () if all(is_whole_to(number, most) for number, most in zip(told, limits)) else None

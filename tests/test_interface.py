@@ -7,12 +7,15 @@ import inspect
 import unittest
 from pathlib import Path
 
+from boneways.judging import judge_fault, judge_judgement
 from boneways.lots import first_clash, hands_left, safe_hands
 from boneways.pictures import picture_of
 from boneways.pieces import judge_holes, judge_pieces
 from boneways.rules import judge_condition, judge_rule
+from boneways.runs import judge_ends, judge_run
 from boneways.simple import is_change, is_lot, judge_changes
 from boneways.tree import judge_match
+from boneways.webs import judge_web
 from tests.plain import ODD_VALUES
 
 PACKAGE = Path(__file__).parent.parent / "boneways"
@@ -45,6 +48,18 @@ FUNCTIONS = {
              "entries_of(rule, p); holds_of(condition, code); codes_of(condition); parts_in(condition); "
              "judge_condition(value); is_condition(value); made_rule(a, b, passes); narrowed(rule, condition); "
              "without(rule, p, k, code); refined(rule, a, b); alike_rules(one, other); turned_rule(rule, k)",
+    "ruletexts": "condition_text(condition); rule_text(rule); read_condition(text); read_rule(text)",
+    "judging": "bad_lots(a, b); is_safe(rule); faults_in(rule); least_fault(rule); judge_fault(rule, value); "
+               "safe_within(rule, order); blocked_by(rule, safe, p, k, code); judgement(rule); "
+               "judge_judgement(rule, value)",
+    "runs": "strikes(rule, p, picture); pass_behind(rule, p, picture); round_behind(rule, picture); "
+            "run_behind(picture, run); judge_run(rule, picture, value); is_bare(rule, picture); "
+            "rounds_of(rule, picture); bones(rule, picture); ends(rule, picture); run_to(rule, picture, end); "
+            "judge_ends(rule, picture, value); kept_till(picture, run); spared(rule); end_cells(picture); "
+            "keeps_ends(rule); lost_end(rule)",
+    "webs": "tied_to(picture, cell); ties(picture); squares(picture); is_thin(picture); web_of(picture); "
+            "cells_of_web(web); judge_web(picture, value); branches(web, knot); kinds_of_knots(web); loops(web); "
+            "sides(picture, way); is_bridge(picture, way)",
 }
 CLASSES = ("BoneError", "BadText", "BadRule", "BadPaper", "BadDeed", "NoWay", "TooMany", "NothingDone")
 
@@ -66,6 +81,7 @@ class Names(unittest.TestCase):
 
 
 RING = ((0, 0), (0, 1), (0, 2), (1, 0), (1, 2), (2, 0), (2, 1), (2, 2))
+RULE = (1, 1, (((1, 16),),))
 
 
 class Arguments(unittest.TestCase):
@@ -78,6 +94,11 @@ class Arguments(unittest.TestCase):
             judge_match(RING, RING, value)
             judge_rule(value)
             judge_condition(value)
+            for judge in (judge_fault, judge_judgement):
+                self.assertEqual(judge(RULE, value), judge(RULE, copy.deepcopy(value)))
+            for judge in (judge_run, judge_ends):
+                self.assertEqual(judge(RULE, RING[:3], value), judge(RULE, RING[:3], copy.deepcopy(value)))
+            self.assertEqual(judge_web(RING, value), judge_web(RING, copy.deepcopy(value)))
             self.assertEqual(repr(value), repr(before))
         hands = [[(0, 0), (0, 2)], [(2, 0)], []]
         before = copy.deepcopy(hands)

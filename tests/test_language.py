@@ -16,6 +16,8 @@ METHODS = set("""append clear copy count endswith extend find get index insert i
     setdefault split splitlines startswith strip update upper values zfill bit_length add discard""".split())
 BARRED = set("""register mro elements open input law version_info with_traceback add_note compile dir eval exec exit gc
     globals help id license locals os quit type vars super sys typing enum map filter round hash iter next""".split())
+# What may be imported from the library, in files of these names.
+LIBRARY = {"itertools": {"combinations", "permutations"}}
 STATEMENTS = (ast.Assign, ast.AugAssign, ast.If, ast.While, ast.For, ast.Return, ast.Break, ast.Continue, ast.Pass,
               ast.Raise, ast.Assert, ast.Delete, ast.Try, ast.Expr, ast.FunctionDef, ast.ClassDef, ast.ImportFrom)
 
@@ -60,6 +62,9 @@ class Language(unittest.TestCase):
             needs[path.stem] = set()
             for node in imports_in(tree):
                 self.assertIsInstance(node, ast.ImportFrom)
+                if node.module in LIBRARY:
+                    self.assertLessEqual({alias.name for alias in node.names}, LIBRARY[node.module])
+                    continue
                 self.assertTrue(node.module.startswith("boneways.") and node.level == 0)
                 stem = node.module.partition(".")[2]
                 needs[path.stem].add(stem)

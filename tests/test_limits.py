@@ -1,18 +1,24 @@
-"""Points 1.7, 2.7, 3.6, 4.7 and 5.7: the greatest that callers pass is answered, and soon."""
+"""Points 1.7, 2.7, 3.6, 4.7, 5.7, 6.7, 7.7 and 8.6: the greatest that callers pass is answered, and soon."""
 
 import random
 import time
 import unittest
 
+from boneways.judging import (
+    bad_lots, blocked_by, faults_in, is_safe, judge_fault, judge_judgement, judgement, least_fault, safe_within)
 from boneways.lots import (
     all_simple_free, first_clash, free_fault, free_within, hands_left, is_free, judge_bad, judge_most, judge_order,
     least_bads, order_of, safe_hands)
 from boneways.pictures import box_of, least_pose, picture_of, pose_between, posed, shifted, unblown, within_box
 from boneways.pieces import euler, holes, judge_holes, judge_pieces, pieces, place_of
-from boneways.rules import alike_rules, codes_of, judge_rule, made_rule, narrowed, refined, turned_rule
+from boneways.rules import alike_rules, codes_of, entries_of, judge_rule, made_rule, narrowed, refined, turned_rule
+from boneways.ruletexts import read_rule, rule_text
+from boneways.runs import (
+    bones, end_cells, ends, is_bare, judge_ends, judge_run, kept_till, lost_end, rounds_of, run_behind, run_to, strikes)
 from boneways.simple import addable, all_changes, changed, judge_changes, judge_struck, keeps, simple_cells
 from boneways.texts import cells_text, picture_text, read_cells, read_picture
 from boneways.tree import around, form_of, judge_match, matched, nodes
+from boneways.webs import cells_of_web, is_thin, judge_web, loops, sides, squares, ties, web_of
 
 SECONDS = 20
 
@@ -98,6 +104,66 @@ class Sizes(unittest.TestCase):
         for k in range(4):
             self.assertEqual(turned_rule(full, k), full)
         self.assertIs(alike_rules(full, refined((1, 1, ((tuple(range(256)),),) * 8), 3, 3)), True)
+
+    def test_judging(self):
+        full = (3, 3, ((tuple(range(256)),) * 9,) * 4)
+        self.assertEqual(read_rule(rule_text(full)), full)
+        self.assertEqual(len(faults_in(full)), 4 * len(bad_lots(3, 3)))
+        chance = random.Random(5)
+        order = tuple((chance.randrange(4), chance.randrange(9), chance.randrange(256)) for _ in range(2000))
+        safe = safe_within(full, order)
+        self.assertIs(is_safe(safe), True)
+        self.assertIsNone(judge_judgement(safe, judgement(safe)))
+        self.assertIsNone(judge_judgement(full, ("fault", least_fault(full))))
+        for k, code in entries_of(full, 3)[::97]:
+            if (k, code) not in entries_of(safe, 3):
+                self.assertIn((k, code), blocked_by(full, safe, 3, k, code))
+        for picture in greatest_pictures():
+            self.assertIsNone(judge_fault(full, (3, picture, picture)))
+            self.assertEqual(judge_fault(safe, (0, strikes(safe, 0, picture), picture)), ("keeps",))
+
+    def test_runs(self):
+        rule = safe_within((3, 3, ((tuple(range(256)),) * 9,) * 8), ())
+        chance = random.Random(6)
+        cells = [(x, y) for x in range(60) for y in range(60)]
+        lots = (cells[:60], chance.sample(cells[:600], 60), [cell for cell in cells if max(cell) < 8][:60])
+        for picture in [shifted(picture_of(lot), -10 ** 6, 10 ** 6 - 60) for lot in lots]:
+            run = ()
+            for p in list(range(8)) * 8:
+                left = run_behind(picture, run)
+                run += ((p, strikes(rule, p, left)[::2]),)
+            self.assertIsNone(judge_run(rule, picture, run))
+            self.assertIsNone(kept_till(picture, run))
+            self.assertIs(is_bare(rule, bones(rule, picture)), True)
+            self.assertLessEqual(len(rounds_of(rule, picture)), 60)
+            self.assertLessEqual(len(end_cells(picture)), 60)
+        self.assertEqual(lost_end(rule) is None, all(code not in table for tables in rule[2] for table in tables
+                                                     for code in (0, 1, 2, 4, 8, 16, 32, 64, 128)))
+
+    def test_ends(self):
+        chance = random.Random(7)
+        for share in (0.3, 0.9, 1):
+            rule = (1, 1, tuple((tuple(code for code in range(256) if chance.random() < share),) for _ in range(8)))
+            for picture in (picture_of([(x, y) for x in range(4) for y in range(3)][:10]),
+                            tuple((x, 10 ** 6) for x in range(10))):
+                told = ends(rule, picture)
+                self.assertIsNone(judge_ends(rule, picture, told))
+                for end in told[:5] + told[-5:]:
+                    self.assertEqual(run_behind(picture, run_to(rule, picture, end)), end)
+
+    def test_webs(self):
+        chance = random.Random(8)
+        cells = [(x, y) for x in range(60) for y in range(60)]
+        lots = [cells[:60], chance.sample(cells[:900:3], 60), [(x, (x * x) % 60) for x in range(60)],
+                [(x, y) for x, y in cells if x < 13 and y < 7 and (x % 2 == 0 or y % 2 == 0)][:60]]
+        for lot in lots:
+            picture = shifted(picture_of(lot), 10 ** 6 - 60, -10 ** 6)
+            self.assertEqual(len(picture) - len(ties(picture)) + len(squares(picture)), euler(picture))
+            self.assertIs(is_thin(picture), True)
+            web = web_of(picture)
+            self.assertIsNone(judge_web(picture, web))
+            self.assertEqual((cells_of_web(web), loops(web)), (picture, len(holes(picture))))
+            self.assertEqual(len([sides(picture, way) for way in web[1]]), len(web[1]))
 
 
 if __name__ == "__main__":
