@@ -7,12 +7,15 @@ import inspect
 import unittest
 from pathlib import Path
 
+from boneways.boxes import judge_boxes, picture_of_boxes, picture_of_diamonds
 from boneways.judging import judge_fault, judge_judgement
 from boneways.lots import first_clash, hands_left, safe_hands
 from boneways.pictures import picture_of
 from boneways.pieces import judge_holes, judge_pieces
+from boneways.rims import judge_rims
 from boneways.rules import judge_condition, judge_rule
 from boneways.runs import judge_ends, judge_run
+from boneways.shapes import judge_renaming
 from boneways.simple import is_change, is_lot, judge_changes
 from boneways.tree import judge_match
 from boneways.webs import judge_web
@@ -60,6 +63,18 @@ FUNCTIONS = {
     "webs": "tied_to(picture, cell); ties(picture); squares(picture); is_thin(picture); web_of(picture); "
             "cells_of_web(web); judge_web(picture, value); branches(web, knot); kinds_of_knots(web); loops(web); "
             "sides(picture, way); is_bridge(picture, way)",
+    "shapes": "shape(web); renaming(one, other, measured); judge_renaming(one, other, measured, value); "
+              "least_shape(a, measured)",
+    "boxes": "step_depths(picture); box_depths(picture); depth_between(one, other, is_near); box_cells(box); "
+             "diamond_cells(diamond); greatest_boxes(picture); greatest_diamonds(picture); picture_of_boxes(boxes); "
+             "picture_of_diamonds(diamonds); judge_boxes(picture, value); needed_boxes(picture); "
+             "kept_boxes(picture, order); fewest_boxes(picture); ridge(picture)",
+    "sizes": "shrunk_by(picture, r); grown_by(picture, r); opened_by(picture, r); closed_by(picture, r); "
+             "sizes_told(picture); greatest_size(picture); within_reach(picture, cell, r)",
+    "rims": "picture_sides(picture); next_side(picture, side); rims(picture); rim_sides(rim); rim_length(rim); "
+            "rim_box(rim); rim_area(rim); rim_turns(rim); is_outer(rim); picture_of_rims(value); judge_rims(value); "
+            "rim_of_piece(picture, cell); rims_of_piece(picture, cell); rim_of_hole(picture, cell); "
+            "rim_about(picture, k)",
 }
 CLASSES = ("BoneError", "BadText", "BadRule", "BadPaper", "BadDeed", "NoWay", "TooMany", "NothingDone")
 
@@ -98,13 +113,20 @@ class Arguments(unittest.TestCase):
                 self.assertEqual(judge(RULE, value), judge(RULE, copy.deepcopy(value)))
             for judge in (judge_run, judge_ends):
                 self.assertEqual(judge(RULE, RING[:3], value), judge(RULE, RING[:3], copy.deepcopy(value)))
-            self.assertEqual(judge_web(RING, value), judge_web(RING, copy.deepcopy(value)))
+            for judge in (judge_web, judge_boxes):
+                self.assertEqual(judge(RING, value), judge(RING, copy.deepcopy(value)))
+            self.assertEqual(judge_rims(value), judge_rims(copy.deepcopy(value)))
+            judge_renaming((2, ()), (2, ()), 1, value)
             self.assertEqual(repr(value), repr(before))
         hands = [[(0, 0), (0, 2)], [(2, 0)], []]
         before = copy.deepcopy(hands)
         told = (hands_left(RING, hands), safe_hands(RING, hands), first_clash(RING, hands), picture_of(hands[0]))
         self.assertEqual(told, (RING[1:2] + RING[3:5] + RING[6:], True, None, ((0, 0), (0, 2))))
         self.assertEqual(hands, before)
+        boxes = [((0, 0), 2), [(5, 5), 1]]
+        before = copy.deepcopy(boxes)
+        self.assertEqual(len(picture_of_boxes(boxes)) + len(picture_of_diamonds(boxes)), 10 + 6)
+        self.assertEqual(boxes, before)
 
 
 if __name__ == "__main__":

@@ -1,9 +1,12 @@
-"""Points 1.7, 2.7, 3.6, 4.7, 5.7, 6.7, 7.7 and 8.6: the greatest that callers pass is answered, and soon."""
+"""Points 1.7, 2.7, 3.6, 4.7, 5.7, 6.7, 7.7, 8.6, 9.7 and 10.7: the greatest that callers pass is answered, and soon."""
 
 import random
 import time
 import unittest
 
+from boneways.boxes import (
+    box_cells, fewest_boxes, greatest_boxes, greatest_diamonds, judge_boxes, kept_boxes, needed_boxes, picture_of_boxes,
+    picture_of_diamonds, ridge)
 from boneways.judging import (
     bad_lots, blocked_by, faults_in, is_safe, judge_fault, judge_judgement, judgement, least_fault, safe_within)
 from boneways.lots import (
@@ -11,11 +14,14 @@ from boneways.lots import (
     least_bads, order_of, safe_hands)
 from boneways.pictures import box_of, least_pose, picture_of, pose_between, posed, shifted, unblown, within_box
 from boneways.pieces import euler, holes, judge_holes, judge_pieces, pieces, place_of
+from boneways.rims import is_outer, judge_rims, picture_of_rims, rim_about, rim_area, rim_of_piece, rims, rims_of_piece
 from boneways.rules import alike_rules, codes_of, entries_of, judge_rule, made_rule, narrowed, refined, turned_rule
 from boneways.ruletexts import read_rule, rule_text
 from boneways.runs import (
     bones, end_cells, ends, is_bare, judge_ends, judge_run, kept_till, lost_end, rounds_of, run_behind, run_to, strikes)
+from boneways.shapes import judge_renaming, least_shape, renaming, shape
 from boneways.simple import addable, all_changes, changed, judge_changes, judge_struck, keeps, simple_cells
+from boneways.sizes import closed_by, greatest_size, grown_by, opened_by, shrunk_by, sizes_told
 from boneways.texts import cells_text, picture_text, read_cells, read_picture
 from boneways.tree import around, form_of, judge_match, matched, nodes
 from boneways.webs import cells_of_web, is_thin, judge_web, loops, sides, squares, ties, web_of
@@ -164,6 +170,61 @@ class Sizes(unittest.TestCase):
             self.assertIsNone(judge_web(picture, web))
             self.assertEqual((cells_of_web(web), loops(web)), (picture, len(holes(picture))))
             self.assertEqual(len([sides(picture, way) for way in web[1]]), len(web[1]))
+
+    def test_shapes(self):
+        chance = random.Random(9)
+        ways = [tuple(sorted(chance.sample(range(7), 2))) + (chance.randrange(10 ** 6), 10 ** 6) for _ in range(30)]
+        one = (7, tuple(sorted(ways + [(6, 6, 1, 1), (6, 6, 1, 1)])))
+        numbers = chance.sample(range(7), 7)
+        other = (7, tuple(sorted(tuple(sorted((numbers[i], numbers[j]))) + (m, n) for i, j, m, n in one[1])))
+        for measured in (0, 1):
+            self.assertIsNone(judge_renaming(one, other, measured, renaming(one, other, measured)))
+            self.assertEqual(least_shape(one, measured), least_shape(other, measured))
+        self.assertIsNone(renaming(one, (7, one[1][:-1] + ((6, 6, 1, 2),)), 1))
+        self.assertEqual(shape(web_of(tuple((2 * x, 0) for x in range(60)))), (60, ()))
+
+    def test_boxes_and_sizes(self):
+        chance = random.Random(10)
+        cells = [(x, y) for x in range(40) for y in range(40)]
+        lots = (cells[:400], chance.sample(cells, 400), chance.sample([c for c in cells if max(c) < 21], 400),
+                [cell for cell in cells if max(cell) < 20])
+        for lot in lots:
+            picture = shifted(picture_of(lot), 10 ** 9 - 40, -10 ** 9 + 1)
+            boxes = greatest_boxes(picture)
+            self.assertIsNone(judge_boxes(picture, boxes))
+            self.assertEqual(picture_of_boxes(boxes), picture)
+            self.assertEqual(picture_of_diamonds(greatest_diamonds(picture)), picture)
+            kept = kept_boxes(picture, boxes[::-1])
+            self.assertEqual(picture_of_boxes(kept), picture)
+            self.assertLessEqual(set(needed_boxes(picture)), set(kept))
+            self.assertEqual(len(ridge(picture)), len(boxes))
+            self.assertEqual(len(sizes_told(picture)), greatest_size(picture))
+            self.assertEqual(shrunk_by(grown_by(picture, 40), 40), closed_by(picture, 40))
+            self.assertEqual(opened_by(picture, 40), ())
+            if len(boxes) <= 12:
+                self.assertEqual(picture_of_boxes(fewest_boxes(picture)), picture)
+        every = [(cell, 40) for cell in lots[1]]
+        self.assertEqual(picture_of_boxes(every), grown_by(picture_of(lots[1]), 39))
+        self.assertEqual(picture_of_boxes(every[:1]), box_cells(every[0]))
+
+    def test_rims(self):
+        chance = random.Random(11)
+        cells = [(x, y) for x in range(40) for y in range(40)]
+        board = [(x, y) for x, y in cells if x < 28 and y < 28 and (x + y) % 2 == 0]
+        lots = (cells[:400], chance.sample(cells, 400), chance.sample([c for c in cells if max(c) < 24], 400), board)
+        for lot in lots:
+            picture = shifted(picture_of(lot), 10 ** 9 - 40, -10 ** 9 + 1)
+            told = rims(picture)
+            self.assertIsNone(judge_rims(told))
+            self.assertEqual(picture_of_rims(told), picture)
+            self.assertEqual(len([rim for rim in told if is_outer(rim)]), len(pieces(picture)))
+            for k in range(0, len(told), 40):
+                self.assertEqual(rim_about(picture, k) is None, is_outer(told[k]) and place_of(
+                    picture, (told[k][0][0] - 1, told[k][0][1])) == ("outside",))
+            self.assertIn(rim_of_piece(picture, picture[0]), rims_of_piece(picture, picture[0]))
+        great = ((0, 0), (0,) * 500 + (1,) * 500 + (2,) * 500 + (3,) * 500)
+        self.assertIsNone(judge_rims((great,)))
+        self.assertEqual(rim_area(great), 250000)
 
 
 if __name__ == "__main__":
