@@ -22,6 +22,11 @@ BLOT = drawn(
     ".######....",
     "..###......")
 
+# Long ones, in which many boxes lie over one another, whole and with some cells out.
+STRIPS = [tuple((x, y) for x, y in product(range(wide), range(high)) if (x, y) not in left)
+          for wide, high, left in ((7, 3, ()), (9, 3, ()), (3, 8, ()), (9, 5, ()), (7, 5, ()), (9, 5, ((0, 0), (8, 4))),
+                                   (8, 5, ((0, 4), (3, 0))), (10, 3, ((4, 0),)), (6, 5, ((0, 0), (0, 1), (5, 4))))]
+
 
 def across(one, other):
     return max(abs(one[0] - other[0]), abs(one[1] - other[1]))
@@ -175,9 +180,9 @@ class Spared(unittest.TestCase):
 
     def test_kept_boxes(self):
         chance = random.Random(3)
-        for picture in all_pictures():
+        for picture in all_pictures() + STRIPS:
             boxes = greatest_boxes(picture)
-            for order in (boxes, boxes[::-1], tuple(chance.sample(boxes, len(boxes)))):
+            for order in (boxes, boxes[::-1]) + tuple(tuple(chance.sample(boxes, len(boxes))) for _ in range(3)):
                 left = list(boxes)
                 for box in order:
                     if plain_cover([each for each in left if each != box]) == picture:
@@ -202,7 +207,7 @@ class Spared(unittest.TestCase):
         for _ in range(25):
             lots = [((chance.randrange(8), chance.randrange(5)), chance.choice((1, 2, 2, 3))) for _ in range(4)]
             begun.append(plain_cover(lots))
-        for picture in begun:
+        for picture in begun + STRIPS:
             boxes = greatest_boxes(picture)
             if len(boxes) <= 12:
                 right = next(lot for many in range(13) for lot in combinations(boxes, many) if plain_cover(lot) == picture)

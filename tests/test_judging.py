@@ -163,6 +163,20 @@ class Faults(unittest.TestCase):
                            if entries_at(cells, codes, a, b, x, y) == lot)
                 self.assertEqual(least_fault(rule), (1, told[2], told[1]))
 
+    def test_the_first_of_some_pictures(self):
+        many = 0
+        for a, b in SIZES:
+            found = {}
+            for cells, picture, codes in LITTLE:
+                for x, y in product(range(a), range(b)):
+                    lot = entries_at(cells, codes, a, b, x, y)
+                    found.setdefault(lot, []).append((len(picture), shifted(picture, x, y), shifted(cells, x, y)))
+            for lot, told in found.items():
+                if len(told) > 1:
+                    many += 1
+                    self.assertEqual(least_fault(rule_with(a, b, lot)), (0, min(told)[2], min(told)[1]))
+        self.assertGreater(many, 9)
+
     def test_least_pass_and_least_lot(self):
         rule = (1, 1, (((1,),), ((1, 4, 16, 64),), ((0, 1, 16),)))
         self.assertEqual(least_fault(rule), (1, ((0, 0), (1, 0)), ((0, 0), (1, 0))))

@@ -152,6 +152,8 @@ class PicturesOfRims(unittest.TestCase):
         self.assertEqual(judge_rims((ONE, ((5, 5), (0, 1)), ((5, 5), (0,)))), ("open", 1))
         self.assertEqual(judge_rims((((0, 0), (0, 1, 2)),)), ("open", 0))
         self.assertEqual(judge_rims((((0, 0), (0, 1, 1, 2)),)), ("open", 0))
+        self.assertEqual(judge_rims((((0, 0), (0, 1, 3)), ONE)), ("open", 0))
+        self.assertEqual(judge_rims((((0, 0), (0, 1, 2)), ONE)), ("open", 0))
         # It goes ahead of all other faults of the list.
         self.assertEqual(judge_rims((ONE, ONE, ((5, 5), (3,)))), ("open", 2))
 
@@ -184,6 +186,12 @@ class PicturesOfRims(unittest.TestCase):
         great = ((-1, -1), (0, 0, 0, 1, 1, 1, 2, 2, 2, 3, 3, 3))
         self.assertEqual(judge_rims((great, ONE)), ("cell", (0, 0)))
         self.assertEqual(judge_rims((ONE, ((3, 0), (1, 0, 3, 2)), ((4, -4), (1, 0, 3, 2)))), ("cell", (3, 0)))
+        hole = (1, 0, 3, 2)
+        self.assertEqual(judge_rims((((3, 5), hole), ((4, 0), hole))), ("cell", (3, 5)))
+        self.assertEqual(judge_rims((((3, 0), hole), ((3, 7), hole), ((4, -2), hole))), ("cell", (3, 0)))
+        self.assertEqual(judge_rims((((3, -9), (1, 1, 0, 3, 3, 2)), ((4, -12), hole))), ("cell", (3, -9)))
+        great = ((0, 0), (0,) * 10 + (1,) * 10 + (2,) * 10 + (3,) * 10)
+        self.assertEqual(judge_rims((great, ((1, 5), ONE[1]), ((2, 1), ONE[1]))), ("cell", (1, 5)))
         # A word that goes forth and back is no rim of a picture either.
         self.assertEqual(judge_rims((((0, 0), (0, 2)),)), ("side", ((0, 0), 0)))
         self.assertEqual(judge_rims((((0, 0), (1, 3)),)), ("side", ((0, 0), 1)))

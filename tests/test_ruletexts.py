@@ -4,26 +4,17 @@ import random
 import re
 import unittest
 
-from boneways.errors import BadText
 from boneways.rules import codes_of, holds_of, is_condition, judge_condition, judge_rule, parts_in
 from boneways.ruletexts import condition_text, read_condition, read_rule, rule_text
 from tests.plain import ODD_VALUES, nested
 from tests.test_rules import LEAVES, SIZES, some_condition, some_rule
+from tests.test_texts import place_told
 
 LEAF = (r"all|none|simple|code (0|[1-9][0-9]?|1[0-9][0-9]|2[0-4][0-9]|25[0-5])|black [0-7]|"
         r"(count|sides|runs) [0-8] [0-8]")
 BRACKET = rf"\(({LEAF}|turned [0-7] @|some turn @|not @|(either|both)( @)*)\)"
 LEAST_TEXTS = ("all", "none", "simple", "code 0", "black 0", "count 0 0", "sides 0 0", "runs 0 0", "turned 0 (all)",
                "some turn (all)", "not (all)", "either (all)", "both (all)")
-
-
-def place_told(read, text):
-    """The place that reading the text tells, None if it is read."""
-    try:
-        read(text)
-    except BadText as error:
-        return error.place
-    return None
 
 
 def is_condition_form(text):
@@ -181,6 +172,18 @@ class RuleTexts(unittest.TestCase):
             self.assertEqual(place_told(read_rule, text), place, text)
             self.assertEqual(plain_place(text, is_rule_form, RULE_ENDINGS), place, text)
         self.assertEqual(len(read_rule(eight)[2]), 8)
+
+    def test_each_code_behind_each_other(self):
+        for last in range(256):
+            head = f"rule 1 1\npass : {last}"
+            begun = {str(code)[:n] for code in range(last + 1, 256) for n in (1, 2, 3)}
+            for code in range(0, 260):
+                good = max([n for n in (1, 2, 3) if str(code)[:n] in begun], default=0)
+                good = min(good, len(str(code)))
+                # The blank may stand if a code may follow.
+                told = len(head) + (1 + good if begun else 0)
+                right = last < code < 256
+                self.assertEqual(place_told(read_rule, f"{head} {code}"), None if right else told)
 
     def test_wrong_signs_anywhere(self):
         chance = random.Random(4)

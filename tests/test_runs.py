@@ -202,6 +202,8 @@ class Ends(unittest.TestCase):
         self.assertIsNone(run_to(LEFT, BAR, BAR))
         self.assertIsNone(run_to(LEFT, BAR, ()))
         self.assertIsNone(run_to(LEFT, BAR, ((7, 7),)))
+        self.assertIsNone(run_to(BOTH, PAIR, ((7, 7),)))
+        self.assertIsNone(run_to(BOTH, PAIR, ((1, 0), (7, 7))))
         self.assertEqual(run_to(BOTH, PAIR, ()), ((0, PAIR),))
         self.assertEqual(ends(LEFT, ()), ((),))
 

@@ -184,6 +184,7 @@ class WrongWebs(unittest.TestCase):
     def test_lacks(self):
         knots, ways = web_of(T)
         self.assertEqual(judge_web(T, (knots, ways[:1])), ("lacks", ways[1]))
+        self.assertEqual(judge_web(T, (knots, ways[:1] + ways[2:])), ("lacks", ways[1]))
         self.assertEqual(judge_web(T, (knots, ())), ("lacks", ways[0]))
 
 
