@@ -82,7 +82,8 @@ def rounds_of(rule, picture):
 
 def bones(rule, picture):
     """The picture behind as many rounds as strike something."""
-    return (picture, *rounds_of(rule, picture))[-1]
+    rounds = rounds_of(rule, picture)
+    return rounds[-1] if len(rounds) > 0 else picture
 
 
 def set_of(picture, part):
