@@ -121,11 +121,15 @@ def rim_area(rim):
     return sum(heights[d] * y for (_, y), d in rim_sides(rim))
 
 
+def turns_in(word):
+    """The tuple of the turn behind each direction of a word: 1 to the left, 0 straight on, -1 to the right."""
+    return tuple((after - before + 1) % 4 - 1 for before, after in zip(word, word[1:] + word[:1]))
+
+
 def rim_turns(rim):
     """How many more turns to the left than to the right there are, going round once."""
-    word = rim[1]
-    turns = [(after - before) % 4 for before, after in zip(word, word[1:] + word[:1])]
-    return turns.count(1) - turns.count(3)
+    turns = turns_in(rim[1])
+    return turns.count(1) - turns.count(-1)
 
 
 def is_outer(rim):

@@ -1,7 +1,7 @@
 """Codes of rounds, simple cells, striking, adding and changes (points 3.1 to 3.5)."""
 
 from boneways.pictures import NEAR_STEPS, SIDE_STEPS, cell_table, is_cell, is_picture, lies_in
-from boneways.pictures import near_cells, picture_of, taken_out, united
+from boneways.pictures import near_cells, picture_of, taken_out
 from boneways.pieces import holes, lots_in, owners_in, pieces
 from boneways.values import is_whole
 
@@ -66,18 +66,23 @@ def code_rooms(code):
     return number_lots(code_numbers(255 - code), SIDE_STEPS)
 
 
-def is_simple_code(code):
-    """Whether a code has just one piece, and just one of its rooms has a side."""
-    # Going round, each room with a side ends behind one white side: there the corner or the side
-    # that follow are black. (White all around, there is no end, and no piece either.) If there is
-    # just one end, all that is black lies between it and the room's beginning: one piece.
+def room_ends(code):
+    """How many ends rooms with a side have, going round a code."""
+    # Each such room ends behind one white side: there the corner or the side that follow are black.
+    # (White all around, there is no end.)
     twice_round = code << 8 | code
     ends = 0
     for side in (0, 2, 4, 6):
         side_corner_side = twice_round >> side & 7
         if side_corner_side in (2, 4, 6):
             ends += 1
-    return ends == 1
+    return ends
+
+
+def is_simple_code(code):
+    """Whether a code has just one piece, and just one of its rooms has a side."""
+    # If there is just one end, all that is black lies between it and the room's beginning: one piece.
+    return room_ends(code) == 1
 
 
 def simple_codes():
@@ -170,12 +175,13 @@ def addable(picture):
 
 def with_cell(picture, cell):
     """The picture with a cell."""
-    return united(picture, (cell,))
+    # Python sorts soon what is sorted but for its last member.
+    return picture if cell in picture else tuple(sorted([*picture, cell]))
 
 
 def without_cell(picture, cell):
     """The picture without a cell."""
-    return taken_out(picture, (cell,))
+    return tuple(each for each in picture if each != cell)
 
 
 def is_change_in(black, value):

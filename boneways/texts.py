@@ -27,8 +27,7 @@ def read_picture(text):
         return ()
     if not text.startswith("at "):
         raise BadText(max(signs_alike(text, "at "), signs_alike(text, "empty")))
-    x, end = number_at(text, 3, MOST_DIGITS)
-    y, end = number_at(text, behind(text, end, " "), MOST_DIGITS)
+    x, y, end = pair_at(text, 3, " ", MOST_DIGITS)
     rows = rows_at(text, behind(text, end, "\n"))
     if not fills_its_box(rows):
         raise BadText(0)
@@ -73,19 +72,19 @@ def read_cells(text):
         raise BadText(0)
     if text == "-":
         return ()
-    x, y, at = cell_at(text, 0)
+    x, y, at = pair_at(text, 0, ",", MOST_DIGITS)
     cells = [(x, y)]
     while at < len(text):
-        x, y, at = cell_at(text, behind(text, at, " "))
+        x, y, at = pair_at(text, behind(text, at, " "), ",", MOST_DIGITS)
         cells.append((x, y))
     return tuple(cells)
 
 
-def cell_at(text, at):
-    """The two numbers of a cell at this place of a text, and the place behind it."""
-    x, at = number_at(text, at, MOST_DIGITS)
-    y, at = number_at(text, behind(text, at, ","), MOST_DIGITS)
-    return (x, y, at)
+def pair_at(text, at, sign, most):
+    """Two integers of at most so many digits at this place of a text, a sign between, and the place behind them."""
+    one, at = number_at(text, at, most)
+    other, at = number_at(text, behind(text, at, sign), most)
+    return (one, other, at)
 
 
 def number_at(text, at, most):

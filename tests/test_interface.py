@@ -9,7 +9,9 @@ from pathlib import Path
 
 from boneways.boxes import judge_boxes, picture_of_boxes, picture_of_diamonds
 from boneways.judging import judge_fault, judge_judgement
+from boneways.kept import is_deed, new_board
 from boneways.lots import first_clash, hands_left, safe_hands
+from boneways.moves import judge_led
 from boneways.pictures import picture_of
 from boneways.pieces import judge_holes, judge_pieces
 from boneways.rims import judge_rims
@@ -75,6 +77,17 @@ FUNCTIONS = {
             "rim_box(rim); rim_area(rim); rim_turns(rim); is_outer(rim); picture_of_rims(value); judge_rims(value); "
             "rim_of_piece(picture, cell); rims_of_piece(picture, cell); rim_of_hole(picture, cell); "
             "rim_about(picture, k)",
+    "turning": "turn_word(rim); least_turns(rim); rim_from(corner, d, turns); shifted_rim(rim, dx, dy); "
+               "turned_rim(rim); mirrored_rim(rim)",
+    "changes": "behind_row(picture, row); pictures_of(picture, row); contrary(row); two_led(one, other); "
+               "shrink_row(picture); shrunk(picture); shrink_by(picture, order); near_pictures(picture, k); "
+               "least_changes(one, other, k); changes_bound(one, other)",
+    "moves": "step_row(cell, other); free_way(picture, cell, to, room); way_row(way); line_up(picture, x); "
+             "led(one, other); judge_led(one, other, value)",
+    "kept": "new_board(picture); is_deed(board, value); done(board, deed); undone(board); redone(board); "
+            "euler_change(code); effect(board, deed); simple_now(board); addable_now(board); "
+            "near_deed(board, deed); is_kept(board); first_torn(board); board_pictures(board); area_of(board); "
+            "span_of(board)",
 }
 CLASSES = ("BoneError", "BadText", "BadRule", "BadPaper", "BadDeed", "NoWay", "TooMany", "NothingDone")
 
@@ -117,6 +130,8 @@ class Arguments(unittest.TestCase):
                 self.assertEqual(judge(RING, value), judge(RING, copy.deepcopy(value)))
             self.assertEqual(judge_rims(value), judge_rims(copy.deepcopy(value)))
             judge_renaming((2, ()), (2, ()), 1, value)
+            self.assertEqual(judge_led(RING, RING, value), judge_led(RING, RING, copy.deepcopy(value)))
+            self.assertEqual(is_deed(new_board(RING), value), is_deed(new_board(RING), copy.deepcopy(value)))
             self.assertEqual(repr(value), repr(before))
         hands = [[(0, 0), (0, 2)], [(2, 0)], []]
         before = copy.deepcopy(hands)

@@ -1,4 +1,7 @@
-"""Points 1.7, 2.7, 3.6, 4.7, 5.7, 6.7, 7.7, 8.6, 9.7 and 10.7: the greatest that callers pass is answered, and soon."""
+"""Points 1.7, 2.7, 3.6, 4.7, 5.7, 6.7, 7.7, 8.6, 9.7, 10.7, 11.8 and 12.5: the greatest that callers pass.
+
+It is answered, and soon.
+"""
 
 import random
 import time
@@ -7,12 +10,18 @@ import unittest
 from boneways.boxes import (
     box_cells, fewest_boxes, greatest_boxes, greatest_diamonds, judge_boxes, kept_boxes, needed_boxes, picture_of_boxes,
     picture_of_diamonds, ridge)
+from boneways.changes import (
+    behind_row, contrary, least_changes, near_pictures, pictures_of, shrink_by, shrink_row, shrunk, two_led)
 from boneways.judging import (
     bad_lots, blocked_by, faults_in, is_safe, judge_fault, judge_judgement, judgement, least_fault, safe_within)
+from boneways.kept import (
+    board_pictures, done, effect, first_torn, is_kept, near_deed, new_board, redone, simple_now, span_of, undone)
 from boneways.lots import (
     all_simple_free, first_clash, free_fault, free_within, hands_left, is_free, judge_bad, judge_most, judge_order,
     least_bads, order_of, safe_hands)
-from boneways.pictures import box_of, least_pose, picture_of, pose_between, posed, shifted, unblown, within_box
+from boneways.moves import free_way, judge_led, led, line_up
+from boneways.pictures import (
+    box_of, least_pose, mirrored, picture_of, pose_between, posed, shifted, unblown, within_box)
 from boneways.pieces import euler, holes, judge_holes, judge_pieces, pieces, place_of
 from boneways.rims import is_outer, judge_rims, picture_of_rims, rim_about, rim_area, rim_of_piece, rims, rims_of_piece
 from boneways.rules import alike_rules, codes_of, entries_of, judge_rule, made_rule, narrowed, refined, turned_rule
@@ -24,6 +33,7 @@ from boneways.simple import addable, all_changes, changed, judge_changes, judge_
 from boneways.sizes import closed_by, greatest_size, grown_by, opened_by, shrunk_by, sizes_told
 from boneways.texts import cells_text, picture_text, read_cells, read_picture
 from boneways.tree import around, form_of, judge_match, matched, nodes
+from boneways.turning import least_turns, mirrored_rim, rim_from, shifted_rim, turn_word, turned_rim
 from boneways.webs import cells_of_web, is_thin, judge_web, loops, sides, squares, ties, web_of
 
 SECONDS = 20
@@ -225,6 +235,102 @@ class Sizes(unittest.TestCase):
         great = ((0, 0), (0,) * 500 + (1,) * 500 + (2,) * 500 + (3,) * 500)
         self.assertIsNone(judge_rims((great,)))
         self.assertEqual(rim_area(great), 250000)
+
+    def test_turning(self):
+        chance = random.Random(12)
+        cells = [(x, y) for x in range(40) for y in range(40)]
+        comb = [(x, y) for x, y in cells if y == 0 or x % 4 == 0][:400]
+        for lot in (comb, chance.sample([c for c in cells if max(c) < 24], 400)):
+            picture = shifted(picture_of(lot), 10 ** 9 - 40, -10 ** 9 + 1)
+            told = rims(picture)
+            self.assertEqual(rims(mirrored(picture)),
+                             tuple(sorted(shifted_rim(mirrored_rim(rim), 1, 0) for rim in told)))
+            for corner, word in told:
+                rim = (corner, word)
+                self.assertEqual(rim_from(corner, word[0], turn_word(rim)), rim)
+                self.assertEqual(least_turns(turned_rim(rim)), least_turns(rim))
+        great = ((0, 0), (0,) * 500 + (1,) * 500 + (2,) * 500 + (3,) * 500)
+        self.assertEqual(least_turns(great), ((0,) * 499 + (1,)) * 4)
+
+    def test_rows(self):
+        chance = random.Random(13)
+        for picture in greatest_pictures():
+            row = shrink_row(picture)
+            self.assertEqual(behind_row(picture, row), shrunk(picture))
+            black, long_row = dict.fromkeys(picture, 1), []
+            while len(long_row) < 10000:
+                x, y = chance.choice(picture)
+                cell = (x + chance.randrange(-2, 3), y + chance.randrange(-2, 3))
+                change = (cell, 0 if cell in black else 1)
+                if judge_changes(tuple(black), [change]) is None:
+                    long_row.append(change)
+                    if change[1]:
+                        black[cell] = 1
+                    else:
+                        del black[cell]
+                # Looked for slowly, and told over and over: a row may come again and again.
+                if len(long_row) == 250:
+                    back = [(cell, 1 - kind) for cell, kind in reversed(long_row)]
+                    long_row = (long_row + back) * 20
+            row = tuple(long_row)
+            self.assertEqual(pictures_of(picture, row)[-1], behind_row(picture, row))
+            self.assertEqual(two_led(row, row[:9990]), contrary(row[9990:]))
+            self.assertIsNone(judge_led(picture, behind_row(picture, row), row))
+
+    def test_moves(self):
+        chance = random.Random(14)
+        cells = [(x, y) for x in range(30) for y in range(30)]
+        dots = [(x, y) for x, y in cells if x < 27 and x % 2 == 0 and y % 2 == 0]
+        lots = [picture_of(chance.sample(dots, 40)) for _ in range(4)] + [tuple(dots[:40])]
+        for picture in lots:
+            other = shifted(posed(chance.choice(lots), 4), 28, 0)
+            self.assertEqual(behind_row(picture, line_up(picture, 29)), tuple((29 + 2 * k, 0) for k in range(40)))
+            far, there = shifted(picture, -999999, 999960), shifted(other, -999999, 999960)
+            self.assertIsNone(judge_led(far, there, led(far, there)))
+            order = tuple(chance.sample(cells, 900))
+            self.assertEqual(shrink_by(picture, order), ())
+        blot = tuple(cells[:30] + cells[31:41])
+        self.assertEqual(len(shrink_by(blot, tuple(chance.sample(cells, 900)))), 39)
+        self.assertIsNone(judge_led(blot, blot[:1], led(blot, blot[:1])))
+        # Walls with a gap below and above by turns.
+        walls = tuple((x, y) for x, y in cells if x % 8 == 2 and y > 2 or x % 8 == 6 and y < 27)
+        way = free_way(picture_of(walls + ((29, 29),)), (29, 29), (0, 0), (0, 0, 29, 29))
+        self.assertGreater(len(way), 180)
+
+    def test_around(self):
+        chance = random.Random(15)
+        small = [(x, y) for x in range(4) for y in range(4)]
+        for _ in range(5):
+            picture = shifted(picture_of(chance.sample(small, 8)), 10 ** 5, -10 ** 5)
+            self.assertIn(picture, near_pictures(picture, 3))
+        wide = [(x, y) for x in range(6) for y in range(6)]
+        for _ in range(40):
+            one = picture_of(chance.sample(wide, 6))
+            near = chance.choice(near_pictures(one, 2))
+            self.assertLessEqual(least_changes(one, near, 4), 2)
+            least_changes(one, picture_of(chance.sample(wide, 6)), 4)
+
+    def test_boards(self):
+        chance = random.Random(16)
+        cells = [(x, y) for x in range(100) for y in range(100)]
+        for lot in (chance.sample(cells, 400), [c for c in cells if max(c) < 20], [c for c in cells if c[0] > 95]):
+            board = new_board(picture_of(lot))
+            for k in range(200):
+                picture = board["picture"]
+                deed = ("shift", 10 ** 6, -10 ** 6) if k % 10 == 9 else ("strike", chance.choice(picture))
+                self.assertEqual(effect(board, deed)[2], done(board, deed)["euler"] - board["euler"])
+                board = done(board, deed)
+            self.assertEqual(is_kept(board), first_torn(board) is None)
+            self.assertEqual(board_pictures(board)[0], picture_of(lot))
+            self.assertEqual(board["euler"], euler(board["picture"]))
+            self.assertEqual(len(near_deed(board, ("strike", board["picture"][0]))), 9)
+            self.assertLessEqual(len(simple_now(board)), 400)
+            for _ in range(200):
+                board = undone(board)
+            self.assertEqual((board["picture"], span_of(board)), (picture_of(lot), box_of(picture_of(lot))))
+            for _ in range(200):
+                board = redone(board)
+            self.assertEqual(len(board["log"]), 200)
 
 
 if __name__ == "__main__":
