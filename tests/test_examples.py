@@ -38,7 +38,8 @@ class Examples(unittest.TestCase):
     def test_there_are_examples_for_each_file(self):
         text = (Path(__file__).parent / "examples.txt").read_text()
         for name in ("pictures", "texts", "pieces", "tree", "simple", "lots", "rules", "ruletexts", "judging", "runs",
-                     "webs", "shapes", "boxes", "sizes", "rims", "turning", "changes", "moves", "kept"):
+                     "webs", "shapes", "boxes", "sizes", "rims", "turning", "changes", "moves", "kept", "pages",
+                     "deeds", "house", "desk"):
             self.assertIn(f"from boneways.{name} import", text)
 
 

@@ -8,10 +8,12 @@ import unittest
 from pathlib import Path
 
 from boneways.boxes import judge_boxes, picture_of_boxes, picture_of_diamonds
+from boneways.desk import Desk
 from boneways.judging import judge_fault, judge_judgement
 from boneways.kept import is_deed, new_board
 from boneways.lots import first_clash, hands_left, safe_hands
 from boneways.moves import judge_led
+from boneways.pages import judge_book
 from boneways.pictures import picture_of
 from boneways.pieces import judge_holes, judge_pieces
 from boneways.rims import judge_rims
@@ -88,6 +90,16 @@ FUNCTIONS = {
             "euler_change(code); effect(board, deed); simple_now(board); addable_now(board); "
             "near_deed(board, deed); is_kept(board); first_torn(board); board_pictures(board); area_of(board); "
             "span_of(board)",
+    "pages": "letters_of(page); put_glyph(page, place, glyph); judge_book(value); name_of(book, glyph); "
+             "turned_names(book, glyph); signs_of(glyph); near_names(book, glyph); set_line(book, text, gap); "
+             "lines_of(page); read_page(book, page); compare(one, other); patched(page, lost, new)",
+    "deeds": "deed_text(deed); read_deed(text); log_text(deeds); read_log(text)",
+}
+# The classes of files that are no errors, each with its methods.
+METHODS = {
+    "House": "board(); do(deed); undo(); redo(); deeds(); twin(); blot(cells); picture(); counts(); kept(); torn(); "
+             "simple(); addable(); effect_of(deed); letters()",
+    "Desk": "house(); say(line)",
 }
 CLASSES = ("BoneError", "BadText", "BadRule", "BadPaper", "BadDeed", "NoWay", "TooMany", "NothingDone")
 
@@ -102,6 +114,19 @@ class Names(unittest.TestCase):
                 word = head.partition("(")[0]
                 self.assertIn(word, defined)
                 self.assertEqual(word + str(inspect.signature(getattr(module, word))), head)
+
+    def test_methods(self):
+        for name, told in METHODS.items():
+            tree = ast.parse((PACKAGE / f"{name.lower()}.py").read_text())
+            body = [node.body for node in tree.body if isinstance(node, ast.ClassDef) and node.name == name][0]
+            defined = {node.name for node in body if isinstance(node, ast.FunctionDef)}
+            kind = getattr(importlib.import_module(f"boneways.{name.lower()}"), name)
+            self.assertEqual(str(inspect.signature(kind)), "(picture)")
+            for head in told.split("; "):
+                word, _, rest = head.partition("(")
+                self.assertIn(word, defined)
+                passed = "self, " + rest if rest != ")" else "self)"
+                self.assertEqual(str(inspect.signature(getattr(kind, word))), "(" + passed)
 
     def test_classes(self):
         tree = ast.parse((PACKAGE / "errors.py").read_text())
@@ -132,6 +157,8 @@ class Arguments(unittest.TestCase):
             judge_renaming((2, ()), (2, ()), 1, value)
             self.assertEqual(judge_led(RING, RING, value), judge_led(RING, RING, copy.deepcopy(value)))
             self.assertEqual(is_deed(new_board(RING), value), is_deed(new_board(RING), copy.deepcopy(value)))
+            self.assertEqual(judge_book(value), judge_book(copy.deepcopy(value)))
+            self.assertEqual(Desk(RING).say(value), Desk(RING).say(copy.deepcopy(value)))
             self.assertEqual(repr(value), repr(before))
         hands = [[(0, 0), (0, 2)], [(2, 0)], []]
         before = copy.deepcopy(hands)

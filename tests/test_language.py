@@ -16,6 +16,8 @@ METHODS = set("""append clear copy count endswith extend find get index insert i
     setdefault split splitlines startswith strip update upper values zfill bit_length add discard""".split())
 BARRED = set("""register mro elements open input law version_info with_traceback add_note compile dir eval exec exit gc
     globals help id license locals os quit type vars super sys typing enum map filter round hash iter next""".split())
+# The attributes of the package's own errors and classes.
+ATTRIBUTES = {"place", "word", "standing", "home"}
 # What may be imported from the library, in files of these names.
 LIBRARY = {"itertools": {"combinations", "permutations"}}
 STATEMENTS = (ast.Assign, ast.AugAssign, ast.If, ast.While, ast.For, ast.Return, ast.Break, ast.Continue, ast.Pass,
@@ -28,6 +30,12 @@ def trees():
 
 def functions_in(tree):
     return [node for node in ast.walk(tree) if isinstance(node, ast.FunctionDef)]
+
+
+def own_methods():
+    """The names of the methods of all classes of the package."""
+    classes = [node for _, tree in trees() for node in ast.walk(tree) if isinstance(node, ast.ClassDef)]
+    return {each.name for node in classes for each in node.body if isinstance(each, ast.FunctionDef)}
 
 
 def imports_in(tree):
@@ -99,12 +107,25 @@ class Language(unittest.TestCase):
                 self.assertEqual(set(names_bound(node)) & (imported | set(top)), set(), (path, node.name))
 
     def test_builtins_and_methods(self):
+        known = METHODS | ATTRIBUTES | own_methods()
         for path, tree in trees():
             for node in ast.walk(tree):
                 if isinstance(node, ast.Name) and hasattr(builtins, node.id) and node.id != "_":
                     self.assertIn(node.id, BUILTINS, path)
-                if isinstance(node, ast.Attribute) and node.attr not in ("place", "word"):
-                    self.assertIn(node.attr, METHODS, path)
+                if isinstance(node, ast.Attribute):
+                    self.assertIn(node.attr, known, path)
+
+    def test_methods_and_attributes(self):
+        own = own_methods() - {"__init__"}
+        self.assertEqual(own & (METHODS | ATTRIBUTES | BUILTINS), set())
+        for kind in (str, int, list, tuple, dict, set, bytes):
+            self.assertEqual([name for name in own | ATTRIBUTES if hasattr(kind, name)], [])
+        for path, tree in trees():
+            for node in ast.walk(tree):
+                # Attributes are assigned through a local name, never on a class.
+                if isinstance(node, ast.Attribute) and isinstance(node.ctx, ast.Store):
+                    self.assertIn(node.value.id, ("self", "other"), path)
+                    self.assertIn(node.attr, ATTRIBUTES, path)
 
     def test_statements_and_values(self):
         for path, tree in trees():

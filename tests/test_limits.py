@@ -1,4 +1,4 @@
-"""Points 1.7, 2.7, 3.6, 4.7, 5.7, 6.7, 7.7, 8.6, 9.7, 10.7, 11.8 and 12.5: the greatest that callers pass.
+"""Points 1.7, 2.7, 3.6, 4.7, 5.7, 6.7, 7.7, 8.6, 9.7, 10.7, 11.8, 12.5, 13.7 and 14.5: the greatest callers pass.
 
 It is answered, and soon.
 """
@@ -12,6 +12,9 @@ from boneways.boxes import (
     picture_of_diamonds, ridge)
 from boneways.changes import (
     behind_row, contrary, least_changes, near_pictures, pictures_of, shrink_by, shrink_row, shrunk, two_led)
+from boneways.deeds import log_text, read_log
+from boneways.desk import Desk
+from boneways.house import House
 from boneways.judging import (
     bad_lots, blocked_by, faults_in, is_safe, judge_fault, judge_judgement, judgement, least_fault, safe_within)
 from boneways.kept import (
@@ -20,8 +23,10 @@ from boneways.lots import (
     all_simple_free, first_clash, free_fault, free_within, hands_left, is_free, judge_bad, judge_most, judge_order,
     least_bads, order_of, safe_hands)
 from boneways.moves import free_way, judge_led, led, line_up
+from boneways.pages import (
+    compare, judge_book, letters_of, lines_of, near_names, patched, put_glyph, read_page, set_line, turned_names)
 from boneways.pictures import (
-    box_of, least_pose, mirrored, picture_of, pose_between, posed, shifted, unblown, within_box)
+    at_home, box_of, least_pose, mirrored, picture_of, pose_between, posed, shifted, unblown, within_box)
 from boneways.pieces import euler, holes, judge_holes, judge_pieces, pieces, place_of
 from boneways.rims import is_outer, judge_rims, picture_of_rims, rim_about, rim_area, rim_of_piece, rims, rims_of_piece
 from boneways.rules import alike_rules, codes_of, entries_of, judge_rule, made_rule, narrowed, refined, turned_rule
@@ -331,6 +336,60 @@ class Sizes(unittest.TestCase):
             for _ in range(200):
                 board = redone(board)
             self.assertEqual(len(board["log"]), 200)
+
+    def test_pages(self):
+        chance = random.Random(17)
+        names = "abcdefghijklmnopqrstuvwxyz"
+        # Glyphs of sixty cells: bars bent at each place, rings, and long slopes.
+        glyphs = [tuple((x, 0) for x in range(k)) + tuple((k, y) for y in range(60 - k)) for k in range(1, 24)]
+        glyphs += [tuple((k, k) for k in range(60)), tuple((k, k // 2) for k in range(60)),
+                   picture_of([(x, y) for x in range(16) for y in range(16) if x in (0, 15) or y in (0, 15)])]
+        book = tuple(zip(names, glyphs))
+        self.assertIsNone(judge_book(book))
+        for name, glyph in book:
+            self.assertIn((name, 0), turned_names(book, glyph))
+            self.assertEqual(near_names(book, glyph)[0], name)
+        text = "".join(chance.choice(names + " ") for _ in range(40))
+        page = set_line(book, text, 20)
+        self.assertEqual(read_page(book, page), [text.replace(" ", "")])
+        cells = [(x, y) for x in range(200) for y in range(200)]
+        pages = [picture_of(chance.sample(cells, 600)) for _ in range(2)] + [tuple(cells[:600]), tuple(cells[:1200:2])]
+        for one in pages:
+            self.assertEqual(sum(len(line) for line in lines_of(one)), len(letters_of(one)))
+            back = ()
+            for place, glyph in letters_of(one):
+                back = put_glyph(back, place, glyph)
+            self.assertEqual(back, one)
+            for other in pages:
+                told = compare(one, other)
+                self.assertEqual(patched(one, told[1], told[2]), other)
+
+    def test_houses_and_desks(self):
+        chance = random.Random(18)
+        cells = [(x, y) for x in range(100) for y in range(100)]
+        for lot in (chance.sample(cells, 400), [cell for cell in cells if max(cell) < 20]):
+            desk = Desk(picture_of(lot))
+            house = desk.house()
+            for _ in range(60):
+                self.assertIn(desk.say("blot " + cells_text((chance.choice(cells),))), ("0", "1"))
+                desk.say("strike " + cells_text((chance.choice(house.picture()),)))
+                self.assertEqual(house.kept(), house.torn() is None)
+                self.assertEqual(house.counts()[0] - house.counts()[1], house.board()["euler"])
+                self.assertEqual(desk.say("cells"), cells_text(house.picture()))
+            self.assertEqual(read_picture(desk.say("picture")), house.picture())
+            self.assertEqual(read_log(desk.say("log")), house.deeds())
+            self.assertEqual(desk.say("simple"), cells_text(house.simple()))
+            self.assertEqual(len(read_cells(desk.say("addable"))), len(house.addable()))
+            self.assertEqual(House(house.picture()).letters(), letters_of(house.picture()))
+            many = len(house.deeds())
+            self.assertEqual([desk.say("undo") for _ in range(many)], [str(k) for k in range(many)][::-1])
+            self.assertEqual((desk.say("undo"), house.picture()), ("refused", picture_of(lot)))
+        blot = tuple(chance.sample(cells, 200))
+        self.assertEqual(House(()).blot(blot), 200)
+        far = 10 ** 60 - 1
+        log = tuple(("shift", far, -far) for _ in range(60))
+        self.assertEqual(read_log(log_text(log)), log)
+        self.assertLessEqual(len(log_text(log)), 8000)
 
 
 if __name__ == "__main__":
